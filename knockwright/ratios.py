@@ -1,0 +1,80 @@
+"""Fractions: tuples (top, bottom) of whole numbers in lowest terms, the bottom from 1 on."""
+
+from knockwright.errors import NoNumber
+
+
+def is_whole(thing):
+    # Python counts True and False among its ints; here they are no numbers.
+    return isinstance(thing, int) and not isinstance(thing, bool)
+
+
+def common_divisor(one, other):
+    great = abs(one)
+    small = abs(other)
+    while small > 0:
+        rest = great % small
+        great = small
+        small = rest
+    return great
+
+
+def is_fraction(thing):
+    if not isinstance(thing, tuple) or len(thing) != 2:
+        return False
+    top = thing[0]
+    bottom = thing[1]
+    if not is_whole(top) or not is_whole(bottom):
+        return False
+    return bottom >= 1 and common_divisor(top, bottom) == 1
+
+
+def fraction(top, bottom=1):
+    if not is_whole(top) or not is_whole(bottom):
+        raise NoNumber("a fraction is made of two whole numbers")
+    if bottom == 0:
+        raise NoNumber("nothing is divided by 0")
+    divisor = common_divisor(top, bottom)
+    if bottom < 0:
+        # The sign belongs to the top alone, so that equal fractions are equal tuples.
+        divisor = -divisor
+    return (top // divisor, bottom // divisor)
+
+
+def plus(one, other):
+    return fraction(one[0] * other[1] + other[0] * one[1], one[1] * other[1])
+
+
+def minus(one, other):
+    return fraction(one[0] * other[1] - other[0] * one[1], one[1] * other[1])
+
+
+def times(one, other):
+    return fraction(one[0] * other[0], one[1] * other[1])
+
+
+def over(one, other):
+    return fraction(one[0] * other[1], one[1] * other[0])
+
+
+def under(one, other):
+    return one[0] * other[1] < other[0] * one[1]
+
+
+def figures(number):
+    # Python writes no number of some thousand figures at once, so each is written in pieces.
+    step = 10 ** 64
+    pieces = []
+    rest = number
+    while rest >= step:
+        pieces.append(str(rest % step).zfill(64))
+        rest = rest // step
+    pieces.append(str(rest))
+    return "".join(reversed(pieces))
+
+
+def shown(one):
+    sign = "-" if one[0] < 0 else ""
+    top = sign + figures(abs(one[0]))
+    if one[1] == 1:
+        return top
+    return top + "/" + figures(one[1])
