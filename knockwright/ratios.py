@@ -40,20 +40,29 @@ def fraction(top, bottom=1):
     return (top // divisor, bottom // divisor)
 
 
+# Here the divisors are taken out ahead of multiplying: those of long numbers are found the slower by far.
+
+
 def plus(one, other):
-    return fraction(one[0] * other[1] + other[0] * one[1], one[1] * other[1])
+    shared = common_divisor(one[1], other[1])
+    top = one[0] * (other[1] // shared) + other[0] * (one[1] // shared)
+    # As both are in lowest terms, what divides top and bottom of the sum divides the shared divisor, too.
+    divisor = common_divisor(top, shared)
+    return (top // divisor, one[1] // shared * (other[1] // divisor))
 
 
 def minus(one, other):
-    return fraction(one[0] * other[1] - other[0] * one[1], one[1] * other[1])
+    return plus(one, (-other[0], other[1]))
 
 
 def times(one, other):
-    return fraction(one[0] * other[0], one[1] * other[1])
+    first = common_divisor(one[0], other[1])
+    second = common_divisor(other[0], one[1])
+    return (one[0] // first * (other[0] // second), one[1] // second * (other[1] // first))
 
 
 def over(one, other):
-    return fraction(one[0] * other[1], one[1] * other[0])
+    return times(one, fraction(other[1], other[0]))
 
 
 def under(one, other):

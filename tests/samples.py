@@ -48,6 +48,23 @@ def row_of(count):
     return [body(place) for place in range(count)]
 
 
+def world_of(*rows):
+    """The world of bodies told as (place, speed) or (place, speed, weight)."""
+    return [body(*row) for row in rows]
+
+
+def fraction_by_chance(chance, most, bottom=6):
+    return Fraction(chance.randint(-most, most), chance.randint(1, bottom))
+
+
+def world_by_chance(chance, count, most=20, bottom=6, weight=1000):
+    places = set()
+    while len(places) < count:
+        places.add(fraction_by_chance(chance, most, bottom))
+    speeds = [fraction_by_chance(chance, most, bottom) for _ in range(count)]
+    return [body(place, speed, chance.randint(1, weight)) for place, speed in zip(sorted(places), speeds)]
+
+
 def kinds(thing):
     """The thing with its kinds written beside, so that True and 1 are not taken for one."""
     if isinstance(thing, (list, tuple)):

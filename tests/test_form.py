@@ -162,7 +162,63 @@ class Code(unittest.TestCase):
                 self.assertIn(ast.unparse(node.comparators[0]), ["None", "True", "False"], (name, node.lineno))
 
 
+def parents_of(path):
+    tree = tree_of(path)
+    return [(child, node) for node in ast.walk(tree) for child in ast.iter_child_nodes(node)]
+
+
+def called(node):
+    return node.func.id if isinstance(node, ast.Call) and isinstance(node.func, ast.Name) else None
+
+
+class Calls(unittest.TestCase):
+    def test_what_is_walked_at_once(self):
+        walked = ["zip", "enumerate", "reversed", "range"]
+        takers = ["list", "tuple", "dict", "sorted", "sum", "any", "all", "enumerate", "zip", "min", "max"]
+        for path in sources():
+            for child, node in parents_of(path):
+                if called(child) in walked:
+                    loop = isinstance(node, (ast.For, ast.comprehension)) and node.iter is child
+                    join = isinstance(node, ast.Call) and getattr(node.func, "attr", None) == "join"
+                    self.assertTrue(loop or join or called(node) in takers, (path.name, child.lineno))
+
+    def test_sets_are_not_kept(self):
+        for path in sources():
+            for child, node in parents_of(path):
+                if isinstance(child, ast.Set) or called(child) in ("set", "frozenset"):
+                    beside = isinstance(node, ast.Compare) or called(node) in ("sorted", "len")
+                    self.assertTrue(beside, (path.name, child.lineno))
+
+    def test_keywords(self):
+        for name, node in nodes_of(ast.Call):
+            words = [word.arg for word in node.keywords]
+            self.assertLessEqual(set(words), {"key", "reverse", "default", "start", "strict"}, (name, node.lineno))
+
+    def test_errors_are_made_on_the_spot(self):
+        for name, node in nodes_of(ast.Raise):
+            self.assertIsInstance(node.exc, ast.Call, (name, node.lineno))
+        for name, node in nodes_of(ast.ExceptHandler):
+            self.assertNotIn(ast.unparse(node.type or ast.Name("Exception")), ["Exception", "TypeError"], name)
+
+
 class Names(unittest.TestCase):
+    def test_nothing_is_called_like_an_import_or_a_class_of_its_file(self):
+        for path in sources():
+            taken = [part.name for node in drawn_from(path) for part in node.names]
+            taken += [node.name for node in tree_of(path).body if isinstance(node, ast.ClassDef)]
+            for node in ast.walk(tree_of(path)):
+                if isinstance(node, ast.arg):
+                    self.assertNotIn(node.arg, taken, (path.name, node.lineno))
+                if isinstance(node, ast.Name) and isinstance(node.ctx, ast.Store):
+                    self.assertNotIn(node.id, taken, (path.name, node.lineno))
+
+    def test_each_import_is_used(self):
+        for path in sources():
+            read = [node.id for node in ast.walk(tree_of(path)) if isinstance(node, ast.Name)]
+            for node in drawn_from(path):
+                for part in node.names:
+                    self.assertIn(part.name, read, path.name)
+
     def bound_names(self, path):
         bound = top_names(path) + [part.name for node in drawn_from(path) for part in node.names]
         for node in ast.walk(tree_of(path)):
