@@ -1,10 +1,15 @@
 """How bodies go and come together: straight on, until at some moment neighbours meet."""
 
-from knockwright.errors import Crowd
+from knockwright.errors import Crowd, NoMoment, TooMany
 from knockwright.ratios import fraction, minus, over, plus, times, under
 
 NOUGHT = (0, 1)
 MOST_MOMENTS = 40
+
+
+def refuse_below_nought(moment):
+    if under(moment, NOUGHT):
+        raise NoMoment("a moment is from 0 on")
 
 
 def place_at(body, moment):
@@ -64,6 +69,14 @@ class Course:
 
     def bodies_at(self, moment):
         return [led(going, moment) for going in self.goings]
+
+    def comes_up_to(self, moment):
+        if self.coming is None or under(moment, self.coming):
+            return False
+        # Whether it has a crowd isn't asked: a crowd that is the forty-first moment is refused so, too.
+        if self.gone_through == MOST_MOMENTS:
+            raise TooMany("a run is gone through for at most forty moments")
+        return True
 
     def lefts(self):
         if self.coming is None:

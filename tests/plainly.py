@@ -1,8 +1,9 @@
 """Runs gone through once more, in another way: by all two bodies, not by neighbours, and in Python's own fractions."""
 
 from fractions import Fraction
+from functools import lru_cache
 
-from tests.samples import pair
+from tests.samples import LONG_RUN, pair, together
 
 
 def freed(bodies):
@@ -43,27 +44,104 @@ def knocked(bodies, left):
     second[1] = 2 * middle - second[1]
 
 
+def next_stop(bodies, now):
+    """The next moment at which some meet, the bodies as they come there, and those that are at one place."""
+    time = time_ahead(bodies)
+    if time is None:
+        return None
+    come = gone_straight(bodies, time)
+    return now + time, come, groups_of(come)
+
+
+def first_crowd(moment, come, groups):
+    for group in groups:
+        if len(group) > 2:
+            return (pair(moment), pair(come[group[0]][0]), tuple(group))
+    return None
+
+
+def met_at(moment, bodies, groups):
+    """Lets the pairs part, and tells their meetings."""
+    for group in groups:
+        knocked(bodies, group[0])
+    return [(pair(moment), pair(bodies[group[0]][0]), group[0]) for group in groups]
+
+
 def plain_run(world, most):
     """What point 32 tells, and behind it the crowd that comes next, as (moment, place, numbers) or None."""
     bodies = freed(world)
     run = []
-    moment = Fraction(0)
+    now = Fraction(0)
     for count in range(most + 1):
-        time = time_ahead(bodies)
-        if time is None:
-            return ("still", run, bound(bodies), pair(moment)), None
-        come = gone_straight(bodies, time)
-        groups = groups_of(come)
-        crowds = [group for group in groups if len(group) > 2]
-        crowd = None
-        if crowds:
-            crowd = (pair(moment + time), pair(come[crowds[0][0]][0]), tuple(crowds[0]))
-        if count == most:
-            return ("more", run, bound(bodies), pair(moment)), crowd
-        if crowds:
-            return ("crowd", run, bound(bodies), pair(moment)), crowd
-        bodies = come
-        moment += time
-        for group in groups:
-            run.append((pair(moment), pair(bodies[group[0]][0]), group[0]))
-            knocked(bodies, group[0])
+        stop = next_stop(bodies, now)
+        if stop is None:
+            return ("still", run, bound(bodies), pair(now)), None
+        crowd = first_crowd(*stop)
+        if count == most or crowd is not None:
+            word = "more" if count == most else "crowd"
+            return (word, run, bound(bodies), pair(now)), crowd
+        now, bodies, groups = stop
+        run.extend(met_at(now, bodies, groups))
+
+
+def plain_walk(world, moment):
+    """All meetings up to a moment; behind them ("bodies", a list), ("crowd", a tuple) or ("many", None)."""
+    return walk_once(tuple(world), moment)
+
+
+@lru_cache(maxsize=None)
+def walk_once(world, moment):
+    bodies = freed(world)
+    run = []
+    now = Fraction(0)
+    for count in range(41):
+        stop = next_stop(bodies, now)
+        if stop is None or stop[0] > Fraction(*moment):
+            return run, ("bodies", bound(gone_straight(bodies, Fraction(*moment) - now)))
+        crowd = first_crowd(*stop)
+        if count == 40:
+            return run, ("many", None)
+        if crowd is not None:
+            return run, ("crowd", crowd)
+        now, bodies, groups = stop
+        run.extend(met_at(now, bodies, groups))
+
+
+def is_plain_fraction(thing):
+    if type(thing) is not tuple or [type(part) for part in thing] != [int, int]:
+        return False
+    return thing[1] > 0 and Fraction(*thing).denominator == thing[1]
+
+
+def differs(thing, meeting):
+    if type(thing) is not tuple or len(thing) != 3 or type(thing[2]) is not int:
+        return "form"
+    if not is_plain_fraction(thing[0]) or not is_plain_fraction(thing[1]):
+        return "form"
+    for word, part, right in zip(("moment", "place", "number"), thing, meeting):
+        if part != right:
+            return word
+    return None
+
+
+def plain_wrong(world, paper, moment):
+    """What point 41 tells of a paper; "many" where it is refused with TooMany."""
+    run, end = plain_walk(world, moment)
+    for k, meeting in enumerate(run):
+        word = differs(paper[k], meeting) if k < len(paper) else "fewer"
+        if word is not None:
+            return (word, k)
+    if end[0] == "many":
+        return "many"
+    if end[0] == "crowd":
+        return ("crowd", len(run))
+    return ("more", len(run)) if len(paper) > len(run) else None
+
+
+LONG_MOMENTS = [Fraction(*meeting[0]) for meeting in plain_run(LONG_RUN, 42)[0][1]]
+
+
+def crowd_behind(count):
+    """LONG_RUN and, far to the right, three that come together just behind so many moments; and when they do."""
+    moment = (LONG_MOMENTS[count - 1] + LONG_MOMENTS[count]) / 2
+    return LONG_RUN + together(1000, moment, [1, 0, -1]), pair(moment)

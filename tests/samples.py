@@ -1,7 +1,10 @@
 """Things that several tests hand in."""
 
+import random
 from copy import deepcopy
 from fractions import Fraction
+
+from knockwright.errors import Crowd, NoWorld
 
 LONG = 3 ** 90          # 43 figures
 LONGER = 7 ** 473       # 400 figures
@@ -40,6 +43,10 @@ def pair(number):
     return (number.numerator, number.denominator)
 
 
+def free(told):
+    return Fraction(*told)
+
+
 def body(place, speed=0, weight=1):
     return (pair(Fraction(place)), pair(Fraction(speed)), weight)
 
@@ -65,6 +72,39 @@ def world_by_chance(chance, count, most=20, bottom=6, weight=1000):
     return [body(place, speed, chance.randint(1, weight)) for place, speed in zip(sorted(places), speeds)]
 
 
+def together(place, moment, speeds, weights=(1, 2, 3, 4, 5)):
+    """Bodies that go straight to one place at one moment."""
+    return [body(place - speed * moment, speed, weight) for speed, weight in zip(speeds, weights)]
+
+
+def close_by_chance(chance, count):
+    """Small whole numbers make several meetings at one moment, and crowds."""
+    places = sorted(chance.sample(range(-7, 8), count))
+    weight = chance.choice([1, 1, 3])
+    return [body(place, chance.randint(-1, 1), chance.randint(1, weight)) for place in places]
+
+
+def worlds_by_chance(seed, rounds):
+    chance = random.Random(seed)
+    for _ in range(rounds):
+        for count in range(1, 13):
+            yield close_by_chance(chance, count)
+            yield world_by_chance(chance, count)
+
+
+# A light one between two heavy ones that come: there are many more than forty moments.
+LONG_RUN = world_of((0, 1, 1000), (1, 0, 1), (4, -1, 1000))
+THREE = world_of((0, 1), (1, 0), (3, -1))
+THREE_MET = [((1, 1), (1, 1), 0), ((3, 2), (3, 2), 1), ((2, 1), (1, 1), 0)]
+
+
+BELOW_NOUGHT = [(-1, 1), (-1, 2), (-7, 3), (-1, LONGER), (-LONGER, 1), (-HUNDRED, 2)]
+
+
+def alike(world, weight=1):
+    return [(place, speed, weight) for place, speed, old in world]
+
+
 def kinds(thing):
     """The thing with its kinds written beside, so that True and 1 are not taken for one."""
     if isinstance(thing, (list, tuple)):
@@ -87,4 +127,18 @@ def outcome(deed, handed):
     try:
         return ("told", deed(*handed))
     except ValueError as error:
-        return ("refused", type(error).__name__, [part for part in error.args if isinstance(part, int)])
+        # What an error is made of counts, its own words don't.
+        return ("refused", type(error).__name__, [part for part in error.args if not isinstance(part, str)])
+
+
+def refused_crowd(case, crowd, deed, *handed):
+    with case.assertRaises(Crowd) as taken:
+        deed(*handed)
+    error = taken.exception
+    case.assertEqual(kinds((error.moment, error.place, error.numbers)), kinds(crowd))
+
+
+def refused_at(case, number, deed, *handed):
+    with case.assertRaises(NoWorld) as taken:
+        deed(*handed)
+    case.assertEqual(kinds(taken.exception.at), kinds(number))

@@ -4,16 +4,11 @@ import random
 import unittest
 from fractions import Fraction
 
-from knockwright.errors import NoWorld
 from knockwright.knocks import meet_of, might, mirrored, push, seen_from, speeds_after
 from knockwright.worlds import is_body, is_world
 from tests.samples import (
-    LONG, LONGER, body, fraction_by_chance, kinds, pair, row_of, unchanged, world_by_chance, world_of,
+    LONG, LONGER, body, fraction_by_chance, free, kinds, pair, refused_at, row_of, unchanged, world_by_chance, world_of,
 )
-
-
-def free(told):
-    return Fraction(*told)
 
 
 def with_speed(one, speed):
@@ -46,9 +41,7 @@ LONG_PAIR = world_of(
 
 class Meeting(unittest.TestCase):
     def refused(self, one, other):
-        with self.assertRaises(NoWorld) as taken:
-            meet_of(one, other)
-        self.assertEqual(kinds(taken.exception.at), kinds(1))
+        refused_at(self, 1, meet_of, one, other)
 
     def test_by_hand(self):
         for one, other, told in [

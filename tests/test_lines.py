@@ -10,23 +10,9 @@ from knockwright.lines import Line, run_of
 from knockwright.worlds import is_body
 from tests.plainly import plain_run
 from tests.samples import (
-    LONG, LONGER, ODD_THINGS, WHOLE_NUMBERS, body, fraction_by_chance, kinds, pair, row_of, unchanged, world_by_chance,
-    world_of,
+    LONG, LONG_RUN, LONGER, ODD_THINGS, THREE, THREE_MET, WHOLE_NUMBERS, body, fraction_by_chance, free, kinds, pair,
+    refused_crowd, row_of, together, unchanged, world_by_chance, world_of, worlds_by_chance,
 )
-
-# A light one between two heavy ones that come: there are many more than forty moments.
-LONG_RUN = world_of((0, 1, 1000), (1, 0, 1), (4, -1, 1000))
-THREE = world_of((0, 1), (1, 0), (3, -1))
-THREE_MET = [((1, 1), (1, 1), 0), ((3, 2), (3, 2), 1), ((2, 1), (1, 1), 0)]
-
-
-def free(told):
-    return Fraction(*told)
-
-
-def together(place, moment, speeds, weights=(1, 2, 3, 4, 5)):
-    """Bodies that go straight to one place at one moment."""
-    return [body(place - speed * moment, speed, weight) for speed, weight in zip(speeds, weights)]
 
 
 def scaled(world, place=1, speed=1, weight=1):
@@ -43,29 +29,6 @@ def stepped(world, most):
         except Crowd:
             break
     return line
-
-
-def close_by_chance(chance, count):
-    """Small whole numbers make several meetings at one moment, and crowds."""
-    places = sorted(chance.sample(range(-7, 8), count))
-    weight = chance.choice([1, 1, 3])
-    return [body(place, chance.randint(-1, 1), chance.randint(1, weight)) for place in places]
-
-
-def worlds_by_chance(seed, rounds):
-    chance = random.Random(seed)
-    for _ in range(rounds):
-        for count in range(1, 13):
-            yield close_by_chance(chance, count)
-            yield world_by_chance(chance, count)
-
-
-class Refusing(unittest.TestCase):
-    def refused(self, deed, crowd):
-        with self.assertRaises(Crowd) as taken:
-            deed()
-        error = taken.exception
-        self.assertEqual(kinds((error.moment, error.place, error.numbers)), kinds(crowd))
 
 
 class ByHand(unittest.TestCase):
@@ -140,7 +103,7 @@ class Numbers(unittest.TestCase):
             self.assertEqual(told[3], told[1][-1][0] if most else (0, 1))
 
 
-class ByChance(Refusing):
+class ByChance(unittest.TestCase):
     def test_against_another_way(self):
         words = {"still": 0, "crowd": 0, "more": 0}
         several = 0
@@ -152,8 +115,8 @@ class ByChance(Refusing):
                 line = stepped(world, most)
                 self.assertEqual(kinds((line.met(), line.bodies(), line.time())), kinds(told[1:]))
                 if crowd is not None:
-                    self.refused(line.next_meetings, crowd)
-                    self.refused(line.step, crowd)
+                    refused_crowd(self, crowd, line.next_meetings)
+                    refused_crowd(self, crowd, line.step)
             words[told[0]] += 1
             several += len(told[1]) > len({meeting[0] for meeting in told[1]})
         # Else this would have seen nothing of what it is for.
@@ -183,7 +146,7 @@ class ByChance(Refusing):
             world = later
 
 
-class Crowds(Refusing):
+class Crowds(unittest.TestCase):
     def check(self, world, crowd, ahead=0):
         """A crowd behind so many moments."""
         for most in range(ahead + 1):
@@ -197,8 +160,8 @@ class Crowds(Refusing):
         for _ in range(ahead):
             self.assertNotEqual(line.step(), [])
         for _ in range(3):
-            self.refused(line.next_meetings, crowd)
-            self.refused(line.step, crowd)
+            refused_crowd(self, crowd, line.next_meetings)
+            refused_crowd(self, crowd, line.step)
             self.assertEqual((line.met(), line.bodies(), line.time()), told[1:])
 
     def test_of_three_four_and_five(self):
