@@ -1,12 +1,12 @@
 """The bodies of a world at any moment, ahead and back."""
 
-from knockwright.goings import Course, refuse_below_nought
+from knockwright.goings import ALL, Course, refuse_below_nought
 from knockwright.knocks import turned_about
 
 
 def at(world, moment):
     refuse_below_nought(moment)
-    course = Course(world)
+    course = Course(world, ALL)
     while course.comes_up_to(moment):
         course.refuse_crowd()
         course.go_on()

@@ -1,15 +1,22 @@
 """How bodies go and come together: straight on, until at some moment neighbours meet."""
 
 from knockwright.errors import Crowd, NoMoment, TooMany
-from knockwright.ratios import fraction, minus, over, plus, times, under
+from knockwright.ratios import fraction, is_whole, minus, over, plus, times, under
 
 NOUGHT = (0, 1)
+# The share of what two bring to a meeting that they part with, where nothing is told of it.
+ALL = (1, 1)
 MOST_MOMENTS = 40
 
 
 def refuse_below_nought(moment):
     if under(moment, NOUGHT):
         raise NoMoment("a moment is from 0 on")
+
+
+def refuse_number_of_moments(most):
+    if not is_whole(most) or not 0 <= most <= MOST_MOMENTS:
+        raise TooMany("a run is told for a whole number of moments from 0 to 40")
 
 
 def place_at(body, moment):
@@ -28,18 +35,23 @@ def joint_moment(one, other):
     return over(minus(other[0], one[0]), gain)
 
 
-def mixed(own, far, weight, mass):
-    kept = times(own, fraction(weight - mass, weight + mass))
-    taken = times(far, fraction(2 * mass, weight + mass))
+def mixed(own, far, weight, mass, share):
+    both = (weight + mass) * share[1]
+    kept = times(own, fraction(weight * share[1] - mass * share[0], both))
+    taken = times(far, fraction(mass * (share[1] + share[0]), both))
     return plus(kept, taken)
 
 
-def behind(one, other):
+def behind(one, other, share):
     # The two straight goings cross where they meet, and what is kept and taken makes up 1: so the rule of the speeds
     # holds of the places at the moment 0, too, and no figures of the moment come into them.
-    place = mixed(one[0], other[0], one[2], other[2])
-    speed = mixed(one[1], other[1], one[2], other[2])
+    place = mixed(one[0], other[0], one[2], other[2], share)
+    speed = mixed(one[1], other[1], one[2], other[2], share)
     return (place, speed, one[2])
+
+
+def go_alike(one, other):
+    return one[0] == other[0] and one[1] == other[1]
 
 
 def least(moments):
@@ -56,8 +68,9 @@ def least(moments):
 
 
 class Course:
-    def __init__(self, world):
+    def __init__(self, world, share):
         self.goings = list(world)
+        self.share = share
         self.now = NOUGHT
         self.gone_through = 0
         # For each left one of two neighbours when they meet: kept, since most of these outlast a meeting.
@@ -86,15 +99,28 @@ class Course:
     def meetings(self):
         return [(self.coming, place_at(self.goings[left], self.coming), left) for left in self.lefts()]
 
+    def are_together(self, left):
+        # Two whose share is 0 go on together once they met, and have no next meeting.
+        return self.joints[left] == self.coming or go_alike(self.goings[left], self.goings[left + 1])
+
+    def gathered(self, left):
+        first = left
+        while first > 0 and self.are_together(first - 1):
+            first -= 1
+        last = left + 1
+        while last < len(self.joints) and self.are_together(last):
+            last += 1
+        return tuple(range(first, last + 1))
+
     def crowd(self):
-        lefts = self.lefts()
-        for left in lefts:
-            if left + 1 in lefts:
-                last = left + 1
-                while last in lefts:
-                    last += 1
-                return tuple(range(left, last + 1))
+        for left in self.lefts():
+            numbers = self.gathered(left)
+            if len(numbers) > 2:
+                return numbers
         return None
+
+    def is_crowded(self):
+        return self.crowd() is not None
 
     def refuse_crowd(self):
         numbers = self.crowd()
@@ -112,7 +138,7 @@ class Course:
     def part(self, left):
         one = self.goings[left]
         other = self.goings[left + 1]
-        self.goings[left] = behind(one, other)
-        self.goings[left + 1] = behind(other, one)
+        self.goings[left] = behind(one, other, self.share)
+        self.goings[left + 1] = behind(other, one, self.share)
         for near in range(max(left - 1, 0), min(left + 2, len(self.joints))):
             self.joints[near] = joint_moment(self.goings[near], self.goings[near + 1])

@@ -1,7 +1,7 @@
 """Two bodies that meet and part; push and might; bodies as they are seen along the way and in a mirror."""
 
 from knockwright.errors import NoWorld
-from knockwright.goings import NOUGHT, joint_moment, mixed, place_at
+from knockwright.goings import ALL, NOUGHT, joint_moment, mixed, place_at
 from knockwright.ratios import minus, plus, times, under
 
 
@@ -14,10 +14,14 @@ def meet_of(one, other):
     return (moment, place_at(one, moment))
 
 
-def speeds_after(one, other):
-    left = mixed(one[1], other[1], one[2], other[2])
-    right = mixed(other[1], one[1], other[2], one[2])
+def speeds_with(one, other, share):
+    left = mixed(one[1], other[1], one[2], other[2], share)
+    right = mixed(other[1], one[1], other[2], one[2], share)
     return (left, right)
+
+
+def speeds_after(one, other):
+    return speeds_with(one, other, ALL)
 
 
 def push_of(body):

@@ -1,13 +1,11 @@
 """Runs on a line: from a world on, told at once or step by step."""
 
-from knockwright.errors import TooMany
-from knockwright.goings import MOST_MOMENTS, Course
-from knockwright.ratios import is_whole
+from knockwright.goings import ALL, Course, refuse_number_of_moments
 
 
 class Line:
     def __init__(self, world):
-        self.course = Course(world)
+        self.course = Course(world, ALL)
         self.done = []
 
     def time(self):
@@ -37,17 +35,24 @@ def end_word(course, most):
     # The moment is beyond the told number, whether it has a crowd or not.
     if course.gone_through == most:
         return "more"
-    if course.crowd() is not None:
+    if course.is_crowded():
         return "crowd"
     return None
 
 
-def run_of(world, most):
-    if not is_whole(most) or not 0 <= most <= MOST_MOMENTS:
-        raise TooMany("a run is told for a whole number of moments from 0 to 40")
-    line = Line(world)
-    word = end_word(line.course, most)
+# Whoever has a course of another kind, with the same values and methods, has its run told here, too.
+
+
+def run_along(course, most):
+    run = []
+    word = end_word(course, most)
     while word is None:
-        line.step()
-        word = end_word(line.course, most)
-    return (word, line.met(), line.bodies(), line.time())
+        run.extend(course.meetings())
+        course.go_on()
+        word = end_word(course, most)
+    return (word, run, course.bodies_at(course.now), course.now)
+
+
+def run_of(world, most):
+    refuse_number_of_moments(most)
+    return run_along(Course(world, ALL), most)

@@ -1,7 +1,7 @@
 """Papers: lists of meetings that are said to be a world's run up to a moment, and whether they are."""
 
 from knockwright.errors import NoRun
-from knockwright.goings import Course, refuse_below_nought
+from knockwright.goings import ALL, Course, refuse_below_nought
 from knockwright.ratios import is_fraction, is_whole
 
 
@@ -29,7 +29,7 @@ def wrong_word(run, count, meeting):
 def look_along(course, run, moment):
     count = 0
     while course.comes_up_to(moment):
-        if course.crowd() is not None:
+        if course.is_crowded():
             return ("crowd", count)
         for meeting in course.meetings():
             word = wrong_word(run, count, meeting)
@@ -50,7 +50,7 @@ def refuse_paper(run, moment):
 
 def first_wrong(world, run, moment):
     refuse_paper(run, moment)
-    return look_along(Course(world), run, moment)
+    return look_along(Course(world, ALL), run, moment)
 
 
 def is_run(world, run, moment):
@@ -59,7 +59,7 @@ def is_run(world, run, moment):
 
 def stands(world, run, moment):
     refuse_paper(run, moment)
-    course = Course(world)
+    course = Course(world, ALL)
     if look_along(course, run, moment) is not None:
         raise NoRun("nothing stands by a paper that isn't right")
     return course.bodies_at(moment)

@@ -145,3 +145,55 @@ def crowd_behind(count):
     """LONG_RUN and, far to the right, three that come together just behind so many moments; and when they do."""
     moment = (LONG_MOMENTS[count - 1] + LONG_MOMENTS[count]) / 2
     return LONG_RUN + together(1000, moment, [1, 0, -1]), pair(moment)
+
+
+def hemmed_in(world, near, far):
+    """The free bodies with the walls among them, as bodies at rest without a weight."""
+    rows = freed(world)
+    if near is not None:
+        rows.insert(0, [Fraction(near), Fraction(0), None])
+    if far is not None:
+        rows.append([Fraction(far), Fraction(0), None])
+    return rows
+
+
+def knocked_otherwise(first, second, share):
+    """A wall turns about; each of two bodies is turned about as their middle sees it, with a share of its pace."""
+    if first[2] is None or second[2] is None:
+        first[1], second[1] = -first[1], -second[1]
+        return
+    middle = (first[2] * first[1] + second[2] * second[1]) / (first[2] + second[2])
+    first[1] = middle - share * (first[1] - middle)
+    second[1] = middle - share * (second[1] - middle)
+
+
+def newly_together(old, new):
+    """Groups of those that are at one place, where some were apart just ahead."""
+    return [group for group in groups_of(new) if len({old[k][0] for k in group}) > 1]
+
+
+def plain_course(world, most, near=None, far=None, share=1):
+    """A run as point 32 tells it, perhaps with walls at the places near and far, perhaps with a share."""
+    rows = hemmed_in(world, near, far)
+    shift = 0 if near is None else 1
+    run = []
+    now = Fraction(0)
+    word = None
+    count = 0
+    while word is None:
+        time = time_ahead(rows)
+        come = gone_straight(rows, time or 0)
+        groups = newly_together(rows, come)
+        if time is None:
+            word = "still"
+        elif count == most:
+            word = "more"
+        elif max(len(group) for group in groups) > 2:
+            word = "crowd"
+        else:
+            rows, now, count = come, now + time, count + 1
+            for group in groups:
+                knocked_otherwise(rows[group[0]], rows[group[1]], share)
+                run.append((pair(now), pair(rows[group[0]][0]), group[0] - shift))
+    bodies = [row for row in rows if row[2] is not None]
+    return (word, run, bound(bodies), pair(now))
