@@ -62,7 +62,10 @@ def times(one, other):
 
 
 def over(one, other):
-    return times(one, fraction(other[1], other[0]))
+    if other[0] == 0:
+        raise NoNumber("nothing is divided by 0")
+    flipped = (other[1], other[0]) if other[0] > 0 else (-other[1], -other[0])
+    return times(one, flipped)
 
 
 def under(one, other):
