@@ -2,15 +2,57 @@
 
 from knockwright.errors import NoNumber
 
+LONG_BITS = 4000
+LEADING_BITS = 256
+
 
 def is_whole(thing):
     # Python counts True and False among its ints; here they are no numbers.
     return isinstance(thing, int) and not isinstance(thing, bool)
 
 
+# Of two long numbers the leading bits alone tell the first steps to their divisor. So these are found with short
+# numbers, and done to the long ones all at once: a step can be taken back, so the divisor stays, whatever the other
+# bits are.
+
+
+def leading_steps(great, small):
+    shift = max(great, small).bit_length() - LEADING_BITS
+    high = great >> shift
+    low = small >> shift
+    # How often the great one and the small one go into the high one, and into the low one.
+    high_great = 1
+    high_small = 0
+    low_great = 0
+    low_small = 1
+    # With half the bits used up, those that were left away begin to tell.
+    while low > 10 ** 38:
+        often = high // low
+        rest = high - often * low
+        rest_great = high_great - often * low_great
+        rest_small = high_small - often * low_small
+        high = low
+        high_great = low_great
+        high_small = low_small
+        low = rest
+        low_great = rest_great
+        low_small = rest_small
+    return (high_great, high_small, low_great, low_small)
+
+
 def common_divisor(one, other):
     great = abs(one)
     small = abs(other)
+    while min(great, small).bit_length() > LONG_BITS:
+        steps = leading_steps(great, small)
+        if steps[1] == 0:
+            # The two are too far from one another for their leading bits to tell a step.
+            rest = great % small
+            great = small
+        else:
+            rest = abs(steps[2] * great + steps[3] * small)
+            great = abs(steps[0] * great + steps[1] * small)
+        small = rest
     while small > 0:
         rest = great % small
         great = small

@@ -86,6 +86,40 @@ class Making(unittest.TestCase):
                         told = plain(self, fraction(top * shared, bottom * shared))
                         self.assertEqual(told, pair(Fraction(top, bottom)))
 
+    def check_long(self, top, bottom):
+        right = Fraction(top, bottom)
+        self.assertEqual(fraction(top, bottom), pair(right))
+        self.assertIs(is_fraction((top, bottom)), right.denominator == bottom)
+
+    def test_numbers_of_thousands_of_figures(self):
+        # What the program told may be handed in again, so numbers may be this long.
+        chance = random.Random(11)
+        sizes = [1, 300, 3900, 4100, 4300, 9000, 30000]
+        for first in sizes:
+            for second in sizes:
+                one, other = chance.getrandbits(first) + 1, chance.getrandbits(second) + 1
+                for times in (1, chance.getrandbits(60) + 1, chance.getrandbits(5000) + 1):
+                    self.check_long(one * times, other * times)
+                    self.check_long(-other * times, one * times)
+
+    def test_long_numbers_close_to_one_another(self):
+        chance = random.Random(12)
+        for size in (4100, 9000):
+            one = chance.getrandbits(size) + 1
+            far = one << 300
+            for other in (one, one + 1, one - 1, one * 2, one * 2 + 1, far, far + 2, one + 2 ** (size // 2)):
+                self.check_long(one, other)
+                self.check_long(other, one)
+                self.check_long(-one * 7 ** 900, other * 7 ** 900)
+
+    def test_long_numbers_with_the_most_steps(self):
+        row = [1, 1]
+        while len(row) < 13000:
+            row.append(row[-1] + row[-2])
+        for number in (5800, 7000, 12998):
+            self.check_long(row[number], row[number + 1])
+            self.check_long(row[number + 1] * row[90], row[number] * row[90])
+
     def test_a_bottom_of_nought(self):
         for top in TOPS:
             with self.assertRaises(NoNumber):
