@@ -144,6 +144,11 @@ class Code(unittest.TestCase):
         for name, node in nodes_of(ast.Assign):
             self.assertEqual(len(node.targets), 1, (name, node.lineno))
 
+    def test_comprehensions_have_one_walk(self):
+        for name, node in nodes_of(ast.ListComp):
+            self.assertEqual(len(node.generators), 1, (name, node.lineno))
+            self.assertLessEqual(len(node.generators[0].ifs), 1, (name, node.lineno))
+
     def test_values(self):
         for name, node in nodes_of(ast.Constant):
             self.assertIsInstance(node.value, (int, str, type(None)), (name, node.lineno))
